@@ -1,0 +1,1 @@
+"""Keptcoin: a ledger of several assets guarded by scripts."""

@@ -1,0 +1,1 @@
+"""Assets, bundles of them, and sums of bundles."""

@@ -1,0 +1,1 @@
+"""Scripts: their notation, their kinds and their meaning."""
