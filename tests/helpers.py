@@ -1,5 +1,7 @@
 """What several tests need: short names for terms, and checks of errors."""
 
+from keptcoin.scripts.reader import read_script
+
 
 def number(n):
     return ("number", n)
@@ -51,6 +53,15 @@ def nested_list(times, inner):
     for _ in range(times):
         inner = ("list", inner)
     return inner
+
+
+def read_term(text, free="a b x y", definitions=""):
+    """The term of a text in which these variables may be free and these definitions may be called."""
+    names = free.split()
+    _, term = read_script(definitions + "".join([f"let {name} = 0 in " for name in names]) + text)
+    for _ in names:
+        term = term[3]
+    return term
 
 
 class Checks:

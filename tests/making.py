@@ -1,6 +1,9 @@
 """Scripts that are made up from the numbers of a seeded generator."""
 
-from keptcoin.scripts.terms import FACTS, FUNCTIONS
+from keptcoin.amounts.bundle import Bundle
+from keptcoin.scripts.facts import Facts
+from keptcoin.scripts.inference import annotate
+from keptcoin.scripts.terms import FACTS, FUNCTIONS, parts, with_parts
 
 SIGNS = "+ - * div mod == < <= and or".split()
 NAMES = "a b c x y zed".split()
@@ -140,6 +143,24 @@ def makers_of(random, kind, part):
     return []
 
 
+ROW = ((1, 0), ("script", "x"), Bundle([(("", 0), 12), (("x", 1), 10 ** 15 + 3)]), (4, -5))
+
+
+def any_facts(random):
+    """Facts of all sorts for scripts."""
+    rows = [((1, n), random.choice([("key", n), ("script", "x"), ("script", "y")]),
+             Bundle([(("", 0), 5 * n), (("x", 1), random.choice([n, 10 ** 15 + n]))]), (n,) * n) for n in range(8)]
+
+    def some(items):
+        return random.sample(items, random.choice([0, 1, 2, 8]))
+
+    numbers = [0, 1, 2, 3, 7, -1, 10 ** 15, -10 ** 15]
+    return Facts(begins=random.choice(numbers), ends=random.choice(numbers), signers=some(numbers), spent=some(rows),
+                 looked=some(rows), made=some(rows), mint=random.choice([(), [(("x", 1), 5), (("x", 2), -10 ** 16)]]),
+                 own=random.choice(["x", "y"]), here=random.choice([None, ROW, rows[3]]), datum=some(numbers),
+                 redeemer=some(numbers))
+
+
 def kinded_script(random, deep):
     """A script that has kinds, and the kind of its body."""
     rows, definitions = [], []
@@ -150,3 +171,46 @@ def kinded_script(random, deep):
         rows.append((name, tuple(parameters.values()), kind))
     kind = random.choice(KINDS)
     return ((tuple(definitions), term_of(random, kind, deep, {}, rows)), kind)
+
+
+def complicated(random, script):
+    """A script with the same kinds, to whose terms the rules of the simplifier were applied backwards here and there."""
+    kinds = annotate(script)
+    definitions, body = script
+    made = []
+    for (name, parameters, term), rows in zip(definitions, kinds):
+        made.append((name, parameters, complicated_term(random, term, list(rows))))
+    return (tuple(made), complicated_term(random, body, list(kinds[-1])))
+
+
+def complicated_term(random, term, kinds):
+    """The same for a term and the kinds of its terms in the order of walking, which are taken off the list."""
+    kind = kinds.pop(0)
+    term = with_parts(term, [complicated_term(random, part, kinds) for part in parts(term)])
+    return random.choice(blown_up(term, kind)) if random.random() < 0.25 else term
+
+
+def blown_up(term, kind):
+    """Terms that the rules make simpler."""
+    zero, one, true, false = ("number", 0), ("number", 1), ("truth", True), ("truth", False)
+    found = [
+        ("if", true, term, ("fail",)), ("if", false, ("fail",), term), ("if", ("fact", "guarding"), term, term),
+        ("if", ("not", ("fact", "guarding")), term, term), ("if", ("fail",), term, term),
+        ("call", "first", (("pair", term, one),)), ("call", "second", (("pair", true, term),)),
+        ("call", "first", (("pair", term, ("note", one, one)),)), ("let", "q", term, ("variable", "q")),
+        ("let", "q", one, term), ("let", "q", ("fact", "here"), term),
+        ("fold", "q", "r", ("list", ()), term, ("fail",)),
+        ("fold", "q", "r", ("fact", "signers"), term, ("variable", "r")),
+    ]
+    if kind == INT:
+        found += [("binary", "+", term, zero), ("binary", "-", zero, term), ("binary", "*", one, term),
+                  ("binary", "div", term, one), ("minus", ("minus", term)), ("binary", "*", term, zero),
+                  ("binary", "-", term, term), ("binary", "mod", term, one), ("call", "head", (("list", (term, one)),)),
+                  ("call", "item", (("list", (zero, term)), one)), ("call", "count", (("list", (term, zero)),)),
+                  ("let", "q", zero, ("binary", "+", term, ("variable", "q"))),
+                  ("call", "head", (("call", "tail", (("list", (zero, term)),)),))]
+    if kind == BOOL:
+        found += [("not", ("not", term)), ("binary", "and", term, true), ("binary", "or", false, term),
+                  ("binary", "and", term, false), ("binary", "or", true, term), ("binary", "or", term, term),
+                  ("if", term, true, false), ("if", term, false, true), ("binary", "and", term, term)]
+    return found

@@ -4,7 +4,7 @@ import types
 import unittest
 
 from keptcoin.scripts import terms
-from keptcoin.scripts.terms import depth, head_word, parts, scopes, size, terms_of, walk
+from keptcoin.scripts.terms import depth, head_word, parts, scopes, size, terms_of, walk, with_parts
 from tests.helpers import FAIL, TRUE, binary, call, fact, listed, minus, nested, number, variable
 
 A, B, C = number(1), variable("x"), fact("here")
@@ -95,6 +95,14 @@ class TermsTest(unittest.TestCase):
             if term[0] == "fold":
                 bound = [(), (), ("x", "s")]
             self.assertEqual(scopes(term), list(zip(inner, bound)), term)
+
+    def test_with_parts(self):
+        for term, inner in FORMS:
+            others = tuple([number(50 + at) for at in range(len(inner))])
+            self.assertEqual(with_parts(term, inner), term)
+            self.assertEqual(parts(with_parts(term, others)), others)
+            self.assertEqual(parts(with_parts(term, list(others))), others)
+            self.assertEqual(with_parts(with_parts(term, others), inner), term)
 
     def test_head_word(self):
         for term, _ in FORMS:

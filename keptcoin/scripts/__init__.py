@@ -1,1 +1,1 @@
-"""Scripts: their notation, their kinds and their meaning."""
+"""Scripts: their notation, their kinds, their meaning and their code."""

@@ -1,16 +1,10 @@
 """The meaning of scripts: their evaluation on facts, with a budget of steps."""
 
+from keptcoin.scripts.endings import Ended, value_in
 from keptcoin.scripts.functions import call_function, compute, fact_value
 from keptcoin.scripts.terms import FUNCTIONS, head_word, parts
 
 BUDGET = 5000
-
-
-class Ended(Exception):
-    """Ends an evaluation that has no value. It never leaves this module."""
-
-    def __init__(self, ending):
-        self.ending = ending
 
 
 class Run:
@@ -64,7 +58,7 @@ def _value_with(run, term, values):
     if form in ("number", "truth"):
         return term[1]
     if form == "fact":
-        return _value_in(fact_value(term[1], run.facts))
+        return value_in(fact_value(term[1], run.facts))
     if form == "fail":
         raise Ended("fail")
     if form == "minus":
@@ -72,7 +66,7 @@ def _value_with(run, term, values):
     if form == "not":
         return not values[0]
     if form == "binary":
-        return _value_in(compute(term[1], values[0], values[1]))
+        return value_in(compute(term[1], values[0], values[1]))
     if form == "pair":
         return ("pair", values[0], values[1])
     if form == "list":
@@ -80,18 +74,10 @@ def _value_with(run, term, values):
     return _called(run, term[1], values)
 
 
-def _value_in(answer):
-    """The value of a pair (ending, value), which may be an error instead."""
-    ending, value = answer
-    if ending != "value":
-        raise Ended(ending)
-    return value
-
-
 def _called(run, name, values):
     """The value of a call with the values of its arguments."""
     if name in FUNCTIONS:
-        return _value_in(call_function(name, values, run.facts))
+        return value_in(call_function(name, values, run.facts))
     parameters, term = run.definitions[name]
     return _value(run, term, dict(zip(parameters, values)))
 

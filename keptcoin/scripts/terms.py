@@ -51,6 +51,18 @@ def parts(term):
     return ()
 
 
+def with_parts(term, inner):
+    """The term with as many other parts in the places of its own."""
+    form = term[0]
+    if form == "list":
+        return ("list", tuple(inner))
+    if form == "call":
+        return ("call", term[1], tuple(inner))
+    if form in _FIRST_PART:
+        return term[:_FIRST_PART[form]] + tuple(inner)
+    return term
+
+
 def scopes(term):
     """The pairs (part, variables that the term binds in that part), in order."""
     found = [(part, ()) for part in parts(term)]

@@ -1,0 +1,1 @@
+"""Transactions: what they are made of, their fees and their shape."""
