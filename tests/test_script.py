@@ -9,6 +9,8 @@ from keptcoin.scripts.bounds import step_bound
 from keptcoin.scripts.checker import check_program
 from keptcoin.scripts.emitting import emit_script
 from keptcoin.scripts.facts import Facts
+from keptcoin.scripts.machine import run_program
+from keptcoin.scripts.meaning import evaluate
 from keptcoin.scripts.printing import print_script
 from keptcoin.scripts.reader import read_script
 from keptcoin.scripts.script import Script, is_validator_text
@@ -61,6 +63,31 @@ class ScriptTest(Checks, unittest.TestCase):
             self.assertIs(script.is_validator, kind == ("bool",))
             self.assertIs(is_validator_text(text), kind == ("bool",))
 
+    def test_kinds_of_the_functions(self):
+        for kind, texts in [
+            (("int",), ["first((1, true))", "count(spent)", "count([])", "head(datum)", "item(signers, 1)", "coin(here)",
+                        "held(here, 1)", "minted(1)"]),
+            (("bool",), ["second((1, true))", "keyed(here, 1)", "homed(here)", "signed(1)", "spends(1, 2)"]),
+            (("output",), ["head(spent)", "item(made, 0)", "first((here, 1))"]),
+            (("list", ("int",)), ["tail(redeemer)", "data(here)", "second((1, datum))"]),
+            (("list", ("output",)), ["tail(looked)"]), (("list", ("any", 0)), ["tail([])"]), (("any", 0), ["head([])"]),
+        ]:
+            for text in texts:
+                self.assertEqual(Script(text).kind, kind, text)
+        for text in ["first(1)", "count(1)", "head(here)", "item(datum, true)", "coin(spent)", "held(1, here)",
+                                      "data(datum)", "keyed(1, 1)", "minted(true)", "signed(here)", "spends(1, true)"]:
+            self.fails(NoKind, 0, Script, text)
+
+    def test_grammar(self):
+        for value, text in [
+            (7, "1+2*3"), (9, "(1 + 2) * 3"), (5, "10 - 3 - 2"), (1, "7 div 2 mod 2"), (6, "-2 * -3"), (-6, "-(2 * 3)"),
+            (True, "1 + 1 == 2 and not false or fail"), (False, "not true and fail"), (True, "1 < 2 and 2 <= 2"),
+            (3, "if 1 < 2 then let x = 1 in x + 2 else 4"), (6, "fold x s in [1, 2, 3] from 0 do s + x"),
+            (2, "note 1 then 2"), (("pair", 1, ("list", (2, 3))), "(1, [2, 3])"), (4, "def f(x, y) = x - y; f(7, 3)"),
+            (12, "def twice(x) = x * 2; def f() = twice(3); twice(f())"), (1, "first((1, 2))"),
+        ]:
+            self.both(value, Script(text), Facts())
+
     def test_kind_of_the_body_that_was_read(self):
         # Simplified, the body is fail, which may have any kind.
         script = Script("if true then fail else 1 < 2")
@@ -107,6 +134,18 @@ class ScriptTest(Checks, unittest.TestCase):
             self.both(False, script, others)
             self.both(False, script, Facts(begins=9))
         self.assertEqual(vars(facts), vars(Facts(begins=4, signers=[7])))
+
+    def test_no_more_steps_than_the_bound(self):
+        source = random.Random(19)
+        for text in ("fold x s in spent from 0 do if coin(x) < 20 then s + 1 else fold y t in made from s do t + coin(y)",
+                     "def f(x) = fold y t in signers from x do t + y; fold x s in looked from 0 do s + f(coin(x))",
+                     "fold x s in datum from true do s and (x < 3 or signed(x))"):
+            script = Script(text)
+            for _ in range(60):
+                facts = any_facts(source)
+                steps = evaluate(script.source, facts, budget=10 ** 6)[3]
+                self.assertLessEqual(steps, script.bound(facts.many))
+                self.assertLessEqual(run_program(script.code, facts, budget=10 ** 6)[3], steps)
 
     def test_scripts_beside_each_other(self):
         one, other = Script("signed(1)"), Script("signed(2)")

@@ -257,6 +257,8 @@ class SameOutcomeTest(unittest.TestCase):
         before = evaluate(script, facts, budget=budget)
         after = evaluate(simple, facts, budget=budget)
         self.assertLessEqual(step_bound(simple), step_bound(script))
+        for many in (0, 1, 3):
+            self.assertLessEqual(step_bound(simple, many), step_bound(script, many))
         if before[0] != "tired":
             self.assertEqual(after[:3], before[:3], print_script(script))
             self.assertLessEqual(after[3], before[3])

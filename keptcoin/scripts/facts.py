@@ -46,13 +46,13 @@ def _checked_fields(facts):
     return [
         ("begins", _is_value(facts.begins)),
         ("ends", _is_value(facts.ends)),
-        ("signers", _are_values(facts.signers)),
+        ("signers", are_values(facts.signers)),
         ("spent", _are_rows(facts.spent)),
         ("looked", _are_rows(facts.looked)),
         ("made", _are_rows(facts.made)),
-        ("here", facts.here is None or _are_values(facts.here[3])),
-        ("datum", _are_values(facts.datum)),
-        ("redeemer", _are_values(facts.redeemer)),
+        ("here", facts.here is None or are_values(facts.here[3])),
+        ("datum", are_values(facts.datum)),
+        ("redeemer", are_values(facts.redeemer)),
     ]
 
 
@@ -60,9 +60,10 @@ def _is_value(number):
     return -MOST <= number <= MOST
 
 
-def _are_values(numbers):
+def are_values(numbers):
+    """True if the list or tuple of integers could be the value of a script."""
     return len(numbers) <= MOST_ITEMS and all([_is_value(number) for number in numbers])
 
 
 def _are_rows(rows):
-    return len(rows) <= MOST_ITEMS and all([_are_values(datum) for reference, address, bundle, datum in rows])
+    return len(rows) <= MOST_ITEMS and all([are_values(datum) for reference, address, bundle, datum in rows])

@@ -1,0 +1,1 @@
+"""The rules by which transactions are examined."""

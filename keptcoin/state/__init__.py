@@ -1,0 +1,1 @@
+"""The state of a ledger, and the books of its unspent outputs."""

@@ -1,0 +1,21 @@
+"""Short ways to make what the tests of transactions and states need."""
+
+from keptcoin.tx.output import Output
+from keptcoin.tx.transaction import Transaction
+
+COIN = ("", 0)
+
+
+def key_output(key, coin, *rows, datum=()):
+    """An output at the address of a key."""
+    return Output(("key", key), [(COIN, coin), *rows], datum)
+
+
+def script_output(text, coin, *rows, datum=()):
+    """An output at the address of a script."""
+    return Output(("script", text), [(COIN, coin), *rows], datum)
+
+
+def some_tx(**fields):
+    """A transaction with these fields; what is left out is good."""
+    return Transaction(**{"number": 1, "spends": [(0, 0)], "makes": [], "fee": 0, **fields})
