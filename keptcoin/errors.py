@@ -193,7 +193,7 @@ class UnknownParent(ChainError):
 
 
 class TooManyTransactions(ChainError):
-    """A block has too many transactions: how many."""
+    """A block has too many transactions: the number of the block."""
 
 
 class TooDeep(ChainError):

@@ -61,7 +61,10 @@ class ExamineTest(Checks, unittest.TestCase):
         self.assertEqual(tx.picture(), before)
 
     def bad(self, error, what, params=PARAMS, **fields):
-        self.fails(error, what, examine, self.state, self.tx(params, **fields), params)
+        self.fails(error, what, self.call, self.tx(params, **fields), params)
+
+    def call(self, tx, params):
+        return examine(self.state, tx, params)
 
     def guarded(self, *refs, **more):
         """The fields of a transaction that spends guarded outputs beside that of key 1, with data and a pledge."""
@@ -276,7 +279,7 @@ class ExamineTest(Checks, unittest.TestCase):
             rest = tx_fields.pop("rest", 0)
             tx = self.tx(chosen, rest, **tx_fields)
             with self.assertRaises(error) as caught:
-                examine(self.state, tx, chosen)
+                self.call(tx, chosen)
             self.assertIs(caught.exception.__class__, error)
             if what is not None:
                 self.assertEqual(caught.exception.what, what)
@@ -284,7 +287,7 @@ class ExamineTest(Checks, unittest.TestCase):
     def test_nothing_of_a_refused_transaction_stays(self):
         tx = self.tx(signers=[])
         before = tx.picture()
-        self.fails(NotSigned, 1, examine, self.state, tx, PARAMS)
+        self.fails(NotSigned, 1, self.call, tx, PARAMS)
         self.assertEqual(tx.picture(), before)
         self.assertEqual(vars(PARAMS), vars(Params()))
 

@@ -68,9 +68,14 @@ def _check_repeated(tx):
     """Rule 4."""
     purposes = [purpose for purpose, datum in tx.data]
     for items in (tx.spends + tx.looks, tx.pledge, tx.signers, purposes, _deed_keys(tx), _draw_keys(tx)):
-        for index, item in enumerate(items):
-            if item in items[:index]:
-                raise Repeated(item)
+        check_different(items)
+
+
+def check_different(items):
+    """Raises Repeated for the first item of a list or tuple that equals an earlier one."""
+    for index, item in enumerate(items):
+        if item in items[:index]:
+            raise Repeated(item)
 
 
 def _deed_keys(tx):

@@ -1,0 +1,1 @@
+"""Blocks, the tree that they form, and the chain that follows its highest branch."""

@@ -1,0 +1,1 @@
+"""Epochs: what is shared out at their ends, and the clock."""
