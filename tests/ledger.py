@@ -19,3 +19,9 @@ def script_output(text, coin, *rows, datum=()):
 def some_tx(**fields):
     """A transaction with these fields; what is left out is good."""
     return Transaction(**{"number": 1, "spends": [(0, 0)], "makes": [], "fee": 0, **fields})
+
+
+def paying(number, ref, key, coin, fee=30, **fields):
+    """A transaction of a key that gives what an output with so much coin holds back to the key, but for the fee."""
+    return some_tx(**{"number": number, "spends": [ref], "makes": [key_output(key, coin - fee)], "fee": fee,
+                      "signers": [key], **fields})

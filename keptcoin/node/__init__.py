@@ -1,0 +1,1 @@
+"""The node: a chain, a pool of transactions that wait, and a journal."""

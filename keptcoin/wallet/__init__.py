@@ -1,0 +1,1 @@
+"""The wallet: what a key can spend, transactions that pay, and texts of contracts."""
