@@ -1,5 +1,6 @@
 """Short ways to make what the tests of transactions and states need."""
 
+from keptcoin.state.state import State
 from keptcoin.tx.output import Output
 from keptcoin.tx.transaction import Transaction
 
@@ -14,6 +15,14 @@ def key_output(key, coin, *rows, datum=()):
 def script_output(text, coin, *rows, datum=()):
     """An output at the address of a script."""
     return Output(("script", text), [(COIN, coin), *rows], datum)
+
+
+def state_of(*outputs):
+    """A state with outputs at (0, 0), (0, 1) and so on."""
+    state = State([], 0)
+    for at, output in enumerate(outputs):
+        state.add_output((0, at), output)
+    return state
 
 
 def some_tx(**fields):

@@ -23,20 +23,12 @@ from keptcoin.tx.transaction import LAST_SLOT, Transaction
 from keptcoin.wallet.build import build
 from keptcoin.wallet.choose import pledge_for, sources
 from tests.helpers import Checks
-from tests.ledger import COIN, key_output, script_output
+from tests.ledger import COIN, key_output, script_output, state_of
 
 PARAMS = Params()
 TOKEN = ("true", 1)
 # How many steps it can take hangs on how many outputs are made.
 COUNTING = "(fold o s in made from 0 do s + 1) <= 8"
-
-
-def state_of(*outputs):
-    """A state with outputs at (0, 0), (0, 1) and so on."""
-    state = State([], 0)
-    for at, output in enumerate(outputs):
-        state.add_output((0, at), output)
-    return state
 
 
 def told(tx):

@@ -8,17 +8,9 @@ from keptcoin.state.state import State
 from keptcoin.tx.params import Params
 from keptcoin.wallet.choose import pledge_for, sources
 from tests.helpers import Checks
-from tests.ledger import key_output, script_output
+from tests.ledger import key_output, script_output, state_of
 
 TOKEN = (("p", 1), 5)
-
-
-def state_of(*outputs):
-    """A state with outputs at (0, 0), (0, 1) and so on."""
-    state = State([], 0)
-    for at, output in enumerate(outputs):
-        state.add_output((0, at), output)
-    return state
 
 
 class SourcesTest(unittest.TestCase):
